@@ -1,0 +1,1 @@
+"""Threeroad: trees of files that part and join."""
